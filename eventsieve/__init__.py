@@ -1,0 +1,1 @@
+"""An event trigger: decides for each event whether it is kept."""
