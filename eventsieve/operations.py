@@ -1,11 +1,13 @@
 """The operations on a trigger: what is refused, and with which code."""
 
+from eventsieve.canonical import line_text
 from eventsieve.network import Network
 from eventsieve.objects import objects_of
 from eventsieve.reading import read_line
 from eventsieve.words import BadTextLine, is_ignored, text_lines
 
 OUT_OF_RANGE = -2
+NO_SUCH_LINE = -2
 NOT_LATER = -3
 NO_MENU = -6
 FIRST_TEXT_LINE = -100
@@ -71,3 +73,31 @@ def event_answer(trigger, time, size, fields):
     if time <= trigger.last_time:
         return [NOT_LATER]
     return trigger.take_event(time, objects)
+
+
+def has_line(trigger, number):
+    return trigger.lines is not None and 0 <= number < len(trigger.lines)
+
+
+def counts_answer(trigger, number):
+    if not has_line(trigger, number):
+        return [NO_SUCH_LINE]
+    line = trigger.lines[number]
+    return [0, line.held, line.passed, line.kept]
+
+
+# The reasons begin with the one of kept events, so their counts stand in the order asked for.
+def sums_answer(trigger):
+    return [0, trigger.events] + trigger.reasons
+
+
+def features_answer(trigger):
+    return [0] + trigger.features_now()
+
+
+def line_answer(trigger, number):
+    if not has_line(trigger, number):
+        return [NO_SUCH_LINE]
+    names = [line.name for line in trigger.lines]
+    text = line_text(trigger.lines[number], names)
+    return [len(text)] + [ord(sign) for sign in text]

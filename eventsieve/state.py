@@ -59,6 +59,9 @@ class Trigger:
         kept = 1 if reason == KEPT else 0
         return [kept, bits_of(holding), bits_of(passing), score, reason]
 
+    def features_now(self):
+        return self.network.features_of(ranked_values(self.last_objects))
+
     def held_just_before(self, time):
         if self.last_time == time - 1:
             return self.held_before

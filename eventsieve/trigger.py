@@ -1,19 +1,20 @@
 """The calls that are handed in as one list, and the answers to them."""
 
-from eventsieve.operations import OUT_OF_RANGE, event_answer, menu_answer, net_answer, opening_fits
+from eventsieve.operations import OUT_OF_RANGE, counts_answer, event_answer, features_answer, line_answer
+from eventsieve.operations import menu_answer, net_answer, opening_fits, sums_answer
 from eventsieve.state import Trigger
 
 NO_TRIGGER = -7
 OPEN = 1
 MENU = 2
 NET = 3
+EVENT = 4
+COUNTS = 5
+SUMS = 6
+FEATURES = 7
 # For each operation, how many whole numbers and how many rows follow it.
-NUMBERS_OF_CALL = {1: 3, 2: 1, 3: 4, 4: 2}
-ROWS_OF_CALL = {1: 0, 2: 1, 3: 3, 4: 1}
-
-
-class UnknownCall(ValueError):
-    pass
+NUMBERS_OF_CALL = {1: 3, 2: 1, 3: 4, 4: 2, 5: 1, 6: 0, 7: 0, 8: 1}
+ROWS_OF_CALL = {1: 0, 2: 1, 3: 3, 4: 1, 5: 0, 6: 0, 7: 0, 8: 0}
 
 
 class Call:
@@ -37,7 +38,15 @@ class Session:
             return menu_answer(self.trigger, call.numbers[0], call.rows[0])
         if call.operation == NET:
             return net_answer(self.trigger, call.numbers, call.rows[0], call.rows[1], call.rows[2])
-        return event_answer(self.trigger, call.numbers[0], call.numbers[1], call.rows[0])
+        if call.operation == EVENT:
+            return event_answer(self.trigger, call.numbers[0], call.numbers[1], call.rows[0])
+        if call.operation == COUNTS:
+            return counts_answer(self.trigger, call.numbers[0])
+        if call.operation == SUMS:
+            return sums_answer(self.trigger)
+        if call.operation == FEATURES:
+            return features_answer(self.trigger)
+        return line_answer(self.trigger, call.numbers[0])
 
     def open_anew(self, dead, window, most):
         if not opening_fits(dead, window, most):
@@ -48,8 +57,6 @@ class Session:
 
 def call_at(calls, start):
     operation = calls[start]
-    if operation not in NUMBERS_OF_CALL:
-        raise UnknownCall(f"no call has the number {operation}")
     end = start + 1 + NUMBERS_OF_CALL[operation]
     numbers = calls[start + 1:end]
     rows = []

@@ -10,6 +10,9 @@ NO_TRIGGER = -7
 LEAST = -(2 ** 63)
 GREATEST = 2 ** 63 - 1
 
+SUMS = [6]
+FEATURES = [7]
+
 
 def opening(dead=0, window=1, most=64):
     return [1, dead, window, most]
@@ -42,6 +45,14 @@ def event(time, *objects):
 
 def bare_event(time, size):
     return [4, time, size, 0]
+
+
+def counts(line):
+    return [5, line]
+
+
+def line(number):
+    return [8, number]
 
 
 def objects_of_kind(letter, *values):
@@ -78,3 +89,13 @@ def holding(text, *objects, score=0):
 
 def holds(condition, *objects, score=0):
     return holding("m:" + condition, *objects, score=score)
+
+
+def written(answer):
+    """The text that a call of line is answered."""
+    assert answer[0] == len(answer) - 1, answer
+    return bytes(answer[1:]).decode("ascii")
+
+
+def canonical(text, number=0):
+    return written(last_answer(opening(), menu(text), line(number)))

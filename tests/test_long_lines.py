@@ -3,7 +3,7 @@
 import sys
 import unittest
 
-from helper import asked, event, menu, opening
+from helper import asked, event, line, menu, opening, written
 
 ONE = (0, 1, 0)
 
@@ -67,8 +67,56 @@ class LongLines(unittest.TestCase):
         try:
             self.check("!" * 4091 + "a>0", False, True)
             self.check("|".join(["a>0&b>0"] * 500 + ["a>0"]), True, False)
+            for condition in ("!" * 4091 + "a>0", "|".join(["a>0&b>0"] * 500 + ["a>0"]), "&".join(["a>0"] * 1000)):
+                self.assertEqual(written(asked(opening(), menu("m:" + condition), line(0))[2]), "m:" + condition)
         finally:
             sys.setrecursionlimit(limit)
+
+
+class TextOfLongLines(unittest.TestCase):
+    def check(self, condition, due):
+        """The text of the line, asked for as often as may be, and the text of that text."""
+        assert len(condition) <= 4094
+        found = asked(opening(), menu("m:" + condition), *[line(0)] * 57)
+        self.assertEqual({written(answer) for answer in found[2:]}, {"m:" + due})
+        self.assertEqual(written(asked(opening(), menu("m:" + due), line(0))[2]), "m:" + due)
+
+    def test_rows_of_not(self):
+        self.check("!" * 4091 + "a>0", "!" * 4091 + "a>0")
+        self.check("! " * 2000 + "a>0", "!" * 2000 + "a>0")
+        self.check("!" * 4085 + "(a>0|b>0)", "!" * 4085 + "(a>0|b>0)")
+        self.check("(" * 16 + "!" * 4001 + "a>0" + ")" * 16, "!" * 4001 + "a>0")
+        self.check("!" * 4001 + "(" * 16 + "a>0" + ")" * 16, "!" * 4001 + "a>0")
+        deep = ("!" * 201 + "(") * 16 + "!" * 101
+        self.check(deep + "a>0" + ")" * 16, "!" * 3317 + "a>0")
+        self.check(deep + "a>0" + ")|b>0" * 16, "!" * 201 + ("(" + "!" * 201) * 15 + "!" * 101 + "a>0" + "|b>0)" * 15
+                   + "|b>0")
+
+    def test_rows_of_and(self):
+        row = "&".join(["a>0"] * 1023)
+        self.check(row, row)
+        self.check("(" + "&".join(["a>0"] * 1020) + ")", "&".join(["a>0"] * 1020))
+        self.check("&".join(["(a>0)"] * 600), "&".join(["a>0"] * 600))
+        self.check("(" + "&".join(["a>0"] * 500) + ")&" + "&".join(["b>0"] * 500),
+                   "(" + "&".join(["a>0"] * 500) + ")&" + "&".join(["b>0"] * 500))
+        self.check("&".join(["a>0"] * 500) + "&(" + "&".join(["b>0"] * 500) + ")",
+                   "&".join(["a>0"] * 500 + ["b>0"] * 500))
+
+    def test_rows_of_or(self):
+        row = "|".join(["a>0"] * 1023)
+        self.check(row, row)
+        self.check("(" + "|".join(["a>0"] * 1020) + ")", "|".join(["a>0"] * 1020))
+        self.check("|".join(["(a>0)"] * 600), "|".join(["a>0"] * 600))
+        self.check("(" + "|".join(["a>0"] * 500) + ")|" + "|".join(["b>0"] * 500),
+                   "(" + "|".join(["a>0"] * 500) + ")|" + "|".join(["b>0"] * 500))
+        self.check("|".join(["a>0"] * 500) + "|(" + "|".join(["b>0"] * 500) + ")",
+                   "|".join(["a>0"] * 500 + ["b>0"] * 500))
+
+    def test_mixed_rows(self):
+        self.check("|".join(["(a>0&b>0)"] * 400), "|".join(["a>0&b>0"] * 400))
+        self.check("&".join(["(a>0|b>0)"] * 400), "&".join(["(a>0|b>0)"] * 400))
+        self.check("&".join(["!(b>0|c>0)"] * 300 + ["a>0"]), "&".join(["!(b>0|c>0)"] * 300 + ["a>0"]))
+        self.check("|".join(["!(!a>0)&(!b>0)"] * 270), "|".join(["!!a>0&!b>0"] * 270))
 
 
 if __name__ == "__main__":

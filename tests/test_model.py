@@ -7,7 +7,7 @@ import random
 import re
 import unittest
 
-from helper import asked, event, menu, net, opening
+from helper import FEATURES, SUMS, asked, canonical, counts, event, line, menu, net, opening, written
 
 TOKEN = re.compile(r" *([A-Za-z_][A-Za-z_0-9]*|[0-9]+|[!&()+\-/:<>?@^|~])")
 
@@ -131,12 +131,43 @@ class Parser:
         return ("n", 1, kind, self.number(0, 65535))
 
 
-def score_of(network, objects):
-    shift, mul, down, b2, b1, w1, w2 = network
+def text_of(condition, names):
+    """The canonical text, by the four places in which the document tells parentheses."""
+    sign = condition[0]
+    rest = condition[1:]
+
+    def part(place, *enclosed):
+        inner = text_of(rest[place], names)
+        return "(" + inner + ")" if rest[place][0] in enclosed else inner
+
+    if sign == "not":
+        return "!" + part(0, "and", "or")
+    if sign == "and":
+        return part(0, "and", "or") + "&" + part(1, "or")
+    if sign == "or":
+        return part(0, "or") + "|" + part(1)
+    if sign == "n":
+        return ("%d" % rest[0] if rest[0] > 1 else "") + "%s>%d" % ("abcdefgh"[rest[1]], rest[2])
+    if sign == "+":
+        return "+%s>%d" % ("abcdefgh"[rest[0]], rest[1])
+    if sign == "~":
+        return "%s~%s<%d" % ("abcdefgh"[rest[0]], "abcdefgh"[rest[1]], rest[2])
+    if sign == "?":
+        return "?>%d" % rest[0]
+    return sign + names[rest[0]]
+
+
+def features_of(shift, objects):
     features = []
     for kind in range(8):
         ranked = sorted((single[1] for single in objects if single[0] == kind), reverse=True) + [0] * 4
         features += [min(255, value // 2 ** shift) for value in ranked[:4]]
+    return features
+
+
+def score_of(network, objects):
+    shift, mul, down, b2, b1, w1, w2 = network
+    features = features_of(shift, objects)
     hidden = [max(0, min(255, (sum(features[i] * w1[32 * j + i] for i in range(32)) + b1[j]) * mul // 2 ** down))
               for j in range(16)]
     return sum(hidden[j] * w2[j] for j in range(16)) + b2
@@ -177,7 +208,11 @@ class Model:
         self.lines = None
         self.events = []
         self.kept = []
+        self.reasons = []
+        self.objects = []
+        # Of each event since the menu was loaded: what held, what passed, and the reason.
         self.held = []
+        self.passed = []
 
     def menu(self, text):
         lines = []
@@ -192,6 +227,7 @@ class Model:
                 return [-100 - number]
         self.lines = lines
         self.held = []
+        self.passed = []
         return [len(lines)]
 
     def event(self, time, objects):
@@ -211,6 +247,9 @@ class Model:
         reason = self.reason(time, passing)
         if reason == 0:
             self.kept.append(time)
+        self.reasons.append(reason)
+        self.passed.append((passing, reason))
+        self.objects = objects
         return [int(reason == 0), sum(2 ** k for k in now), sum(2 ** k for k in passing), score, reason]
 
     def reason(self, time, passing):
@@ -220,6 +259,29 @@ class Model:
         if any(time < k + dead for k in self.kept):
             return 2
         return 3 if sum(1 for k in self.kept if time < k + window) >= most else 0
+
+    def has(self, number):
+        return self.lines is not None and number in range(len(self.lines))
+
+    def counts(self, number):
+        if not self.has(number):
+            return [-2]
+        passed = [reason for passing, reason in self.passed if number in passing]
+        return [0, sum(number in now for now in self.held), len(passed), passed.count(0)]
+
+    def sums(self):
+        return [0, len(self.events)] + [self.reasons.count(reason) for reason in range(4)]
+
+    def features(self):
+        return [0] + features_of(self.network[0], self.objects)
+
+    def line(self, number):
+        if not self.has(number):
+            return [-2]
+        name, condition, prescale = self.lines[number]
+        text = "%s:%s" % (name, text_of(condition, [other[0] for other in self.lines]))
+        text += "/%d" % prescale if prescale > 1 else ""
+        return [len(text)] + list(text.encode("ascii"))
 
 
 class Maker:
@@ -234,7 +296,7 @@ class Maker:
         chosen = dice.choice(choices)
         letter = dice.choice("abc")
         if chosen == "n":
-            return "%d%s>%d" % (dice.randint(1, 3), letter, dice.randint(0, 12))
+            return "%s%s>%d" % (dice.choice(("1", "2 ", "3", "01", "0002")), letter, dice.randint(0, 12))
         if chosen == "n1":
             return "%s > %03d" % (letter, dice.randint(0, 12))
         if chosen == "+":
@@ -266,12 +328,18 @@ class Maker:
         for number in range(self.dice.randint(1, 8)):
             row = "L%d:%s" % (number, self.condition(names, plain, self.dice.randint(1, 8)))
             if self.dice.random() < 0.4:
-                row += "/%d" % self.dice.randint(1, 4)
+                row += self.dice.choice(("/%d", " / %d", "/0%d")) % self.dice.randint(1, 4)
             names.append("L%d" % number)
             rows.append(row)
             if self.dice.random() < 0.2:
                 rows.append(" " * self.dice.randint(0, 2))
         return "\n".join(rows)
+
+    def question(self, model):
+        """A call that changes nothing, and what it is to be answered."""
+        number = self.dice.choice((-1, 0, 0, 1, 2, 3, 7, 8))
+        return self.dice.choice([(counts(number), model.counts(number)), (SUMS, model.sums()),
+                                 (FEATURES, model.features()), (line(number), model.line(number))])
 
     def spoiled(self, text):
         place = self.dice.randrange(len(text) + 1)
@@ -297,7 +365,7 @@ class AgainstModel(unittest.TestCase):
         calls = [opening(*limits)]
         expected = [[0]]
         time = dice.randint(0, 3)
-        for step in range(45):
+        for step in range(58):
             roll = dice.random()
             if step == 0 or roll < 0.06:
                 text = maker.menu() if roll < 0.5 else maker.spoiled(maker.menu())
@@ -307,6 +375,10 @@ class AgainstModel(unittest.TestCase):
                 model.network = maker.network()
                 calls.append(net(*model.network))
                 expected.append([0])
+            elif roll < 0.3:
+                call, answer = maker.question(model)
+                calls.append(call)
+                expected.append(answer)
             else:
                 objects = maker.objects()
                 calls.append(event(time, *objects))
@@ -326,6 +398,62 @@ class AgainstModel(unittest.TestCase):
             text = maker.spoiled(maker.menu())
             with self.subTest(text=text):
                 self.assertEqual(asked(opening(), menu(text))[1], Model(0, 1, 1).menu(text))
+
+
+class CanonicalText(unittest.TestCase):
+    def test_of_random_lines(self):
+        for seed in range(400):
+            maker = Maker(seed)
+            text = maker.menu()
+            model = Model(0, 1, 1)
+            with self.subTest(text=text):
+                number = model.menu(text)[0]
+                found = asked(opening(), menu(text), *[line(k) for k in range(number)])[2:]
+                self.assertEqual(found, [model.line(k) for k in range(number)])
+
+    def test_gives_the_same_line_behind_the_same_lines(self):
+        # Requirement 5, for each line by itself and for all lines at once.
+        for seed in range(200):
+            maker = Maker(seed)
+            rows = [row for row in maker.menu().split("\n") if row.strip(" ")]
+            plain = [written(answer) for answer in asked(opening(), menu("\n".join(rows)), *map(line, range(len(rows))))[2:]]
+            events = [event(time, *maker.objects()) for time in range(12)]
+            network = net(*maker.network())
+            due = asked(opening(), menu("\n".join(rows)), network, *events)
+            for number in range(len(rows)):
+                again = "\n".join(rows[:number] + [plain[number]] + rows[number + 1:])
+                self.assertEqual(canonical(again, number), plain[number])
+                self.assertEqual(asked(opening(), menu(again), network, *events), due)
+            self.assertEqual([canonical("\n".join(plain), number) for number in range(len(rows))], plain)
+            self.assertEqual(asked(opening(), menu("\n".join(plain)), network, *events), due)
+
+    def tree(self, text):
+        try:
+            return Parser(text, ["L%d" % k for k in range(8)]).line()
+        except Bad:
+            return None
+
+    def pairs(self, text):
+        begun = []
+        for place, sign in enumerate(text):
+            if sign == "(":
+                begun.append(place)
+            elif sign == ")":
+                yield begun.pop(), place
+
+    def test_has_the_same_tree_and_no_parentheses_to_spare(self):
+        for seed in range(300):
+            condition = Maker(seed).condition(["L0", "L1"], False, 12)
+            text = "L0:a>0\nL1:b>0\nm:" + condition
+            found = canonical(text, 2)
+            with self.subTest(condition=condition):
+                self.assertNotIn(" ", found)
+                self.assertIsNone(re.search(r"(?<![A-Za-z_0-9])0[0-9]|(?<![0-9])1[a-h]", found))
+                self.assertEqual(self.tree(found), self.tree("m:" + condition))
+                self.assertIsNotNone(self.tree(found))
+                for begin, end in self.pairs(found):
+                    fewer = found[:begin] + found[begin + 1:end] + found[end + 1:]
+                    self.assertNotEqual(self.tree(fewer), self.tree(found))
 
 
 class Requirements(unittest.TestCase):

@@ -1,10 +1,10 @@
-"""What the answers of these calls do not show yet, but later ones are to tell."""
+"""What no list of 60 calls can show: counts at the end of their range, and the state behind the answers."""
 
 import unittest
 
 from eventsieve.reading import read_line
-from eventsieve.trigger import OPEN, Session, UnknownCall, call_at
-from helper import event, menu, net, opening
+from eventsieve.trigger import OPEN, Session, call_at
+from helper import FEATURES, SUMS, counts, event, line, menu, net, opening
 
 
 def steps(condition, names=()):
@@ -67,6 +67,35 @@ class Counts(unittest.TestCase):
             self.assertEqual(trigger.take_event(time, []), [1, 1, 1, 0, 0])
             self.assertEqual((trigger.events, trigger.reasons[0], line.held, line.passed, line.kept), (count,) * 5)
 
+    def test_are_told_modulo_2_to_the_64(self):
+        session = Session()
+        for call in (opening(3, 9, 1), menu("m:!a>0")):
+            session.answer_to(call_at(call, 0))
+        trigger = session.trigger
+        line = trigger.lines[0]
+        top = 2 ** 64 - 1
+        line.held = line.passed = line.kept = top
+        trigger.events = top - 3
+        trigger.reasons = [top] * 4
+        for call, told, total in ((event(1), [0, 0, 0, 0], [0, top - 2, 0, top, top, top]),
+                                  (event(2), [0, 1, 1, 0], [0, top - 1, 0, top, 0, top]),
+                                  (event(4), [0, 2, 2, 0], [0, top, 0, top, 0, 0]),
+                                  (event(5, (0, 1, 0)), [0, 2, 2, 0], [0, 0, 0, 0, 0, 0]),
+                                  (event(10), [0, 3, 3, 1], [0, 1, 1, 0, 0, 0])):
+            session.answer_to(call_at(call, 0))
+            self.assertEqual(session.answer_to(call_at(counts(0), 0)), told)
+            self.assertEqual(session.answer_to(call_at(SUMS, 0)), total)
+            # Requirement 7.
+            self.assertEqual(total[1], sum(total[2:]) % 2 ** 64)
+
+    def test_prescale_beyond_the_range(self):
+        session = Session()
+        for call in (opening(), menu("m:!a>0/3")):
+            session.answer_to(call_at(call, 0))
+        session.trigger.lines[0].held = 2 ** 64 - 2
+        passing = [session.answer_to(call_at(event(time), 0))[2] for time in range(5)]
+        self.assertEqual(passing, [1, 1, 0, 0, 1])
+
     def test_objects_of_the_last_event_stand(self):
         calls = [opening(), menu(""), event(1, (0, 1, 0)), event(2, (3, 600, 5)), event(2, (1, 1, 1)), net(shift=2)]
         trigger = session_after(*calls)
@@ -83,16 +112,28 @@ class Counts(unittest.TestCase):
         self.assertEqual([(line.name, line.prescale) for line in trigger.lines], [("first", 7), ("_2", 1)])
 
 
+class Answers(unittest.TestCase):
+    def test_are_lists_of_their_own(self):
+        session = Session()
+        for call in (opening(), menu("m:a>0"), event(1, (0, 1, 0))):
+            session.answer_to(call_at(call, 0))
+        for call in (counts(0), SUMS, FEATURES, line(0)):
+            first = session.answer_to(call_at(call, 0))
+            kept = list(first)
+            first.clear()
+            self.assertEqual(session.answer_to(call_at(call, 0)), kept)
+
+
 class CallLayout(unittest.TestCase):
     def test_end_of_a_call(self):
         self.assertEqual(call_at([1, 2, 3, 4, 9], 0).end, 4)
         self.assertEqual(call_at([7, 2, 3, 2, 5, 6, 9], 1).rows, [[5, 6]])
         self.assertEqual(call_at(opening(), 0).operation, OPEN)
 
-    def test_numbers_of_no_call(self):
-        for number in (-1, 0, 9):
-            with self.assertRaises(UnknownCall):
-                call_at([number], 0)
+    def test_calls_without_rows(self):
+        calls = [5, 3, 6, 7, 8, -1, 9]
+        self.assertEqual([call_at(calls, start).end for start in (0, 2, 3, 4)], [2, 3, 4, 6])
+        self.assertEqual([call_at(calls, start).numbers for start in (0, 2, 3, 4)], [[3], [], [], [-1]])
 
 
 if __name__ == "__main__":
